@@ -1,0 +1,1 @@
+"""RINGHELD: objects held by several houses of a ring."""
