@@ -16,10 +16,7 @@ class Clock:
     """
 
     def __init__(self, dots):
-        numbers = {}
-        for client, number in dots:
-            numbers.setdefault(client, []).append(number)
-        self._rows = {client: _packed(0, numbers[client]) for client in numbers}
+        self._rows = _rows_of(dots)
 
     def __contains__(self, dot):
         client, number = dot
@@ -65,6 +62,15 @@ class Clock:
         clock = Clock([])
         clock._rows = {client: (upto, later) for client, upto, later in value}
         return clock
+
+
+def _rows_of(dots):
+    """Return the dict from the clients of the dots to their pairs (upto, later)."""
+    ordered = sorted(dots)
+    starts = [at for at in range(len(ordered)) if at == 0 or ordered[at - 1][0] != ordered[at][0]]
+    ends = starts[1:] + [len(ordered)]
+    return {ordered[start][0]: _packed(0, [number for client, number in ordered[start:end]])
+            for start, end in zip(starts, ends)}
 
 
 def _packed(upto, numbers):
