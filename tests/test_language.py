@@ -1,6 +1,7 @@
 """Rules of the language that can be read off the files of the package without judgement."""
 
 import ast
+import builtins
 import os
 import re
 import unittest
@@ -16,6 +17,13 @@ BARRED = (ast.AsyncFunctionDef, ast.Await, ast.Import, ast.Div)
 
 def is_docstring(node):
     return isinstance(node, ast.Expr) and isinstance(node.value, ast.Constant) and isinstance(node.value.value, str)
+
+
+def names_bound(function):
+    """Return the names of the parameters and the local variables of a function."""
+    arguments = function.args.posonlyargs + function.args.args + function.args.kwonlyargs
+    stored = [node.id for node in ast.walk(function) if isinstance(node, ast.Name) and isinstance(node.ctx, ast.Store)]
+    return {argument.arg for argument in arguments} | set(stored)
 
 
 class Language(unittest.TestCase):
@@ -53,6 +61,32 @@ class Language(unittest.TestCase):
                     self.assertEqual(node.level, 0, name)
                     self.assertTrue(node.module in IMPORTS or node.module.startswith("ringheld."), (name, node.module))
                     self.assertNotIn("*", [alias.name for alias in node.names])
+
+    def test_imports_are_used_and_are_no_variables(self):
+        for name, text in self.files():
+            tree = ast.parse(text)
+            imported = {alias.name for node in tree.body if isinstance(node, ast.ImportFrom) for alias in node.names}
+            classes = {node.name for node in tree.body if isinstance(node, ast.ClassDef)}
+            read = {node.id for node in ast.walk(tree) if isinstance(node, ast.Name) and isinstance(node.ctx, ast.Load)}
+            self.assertEqual(imported - read, set(), name)
+            for node in ast.walk(tree):
+                if isinstance(node, ast.FunctionDef):
+                    # Running examples gives the name _ to the builtins, too.
+                    barred = imported | classes | set(dir(builtins)) - {"_"}
+                    self.assertEqual(names_bound(node) & barred, set(), (name, node.name))
+
+    def test_no_name_is_a_method_and_an_attribute(self):
+        methods, attributes = set(), set()
+        for _, text in self.files():
+            for node in ast.walk(ast.parse(text)):
+                if isinstance(node, ast.ClassDef):
+                    methods |= {part.name for part in node.body if isinstance(part, ast.FunctionDef)}
+                if isinstance(node, ast.Attribute) and isinstance(node.ctx, ast.Store):
+                    attributes.add(node.attr)
+        self.assertEqual(methods & attributes, set())
+        for kind in (str, int, list, tuple, dict, set, bytes):
+            named = {name for name in methods | attributes if not name.startswith("__")}
+            self.assertEqual(named & set(dir(kind)), set())
 
     def test_no_barred_statements(self):
         for name, text in self.files():
